@@ -1,0 +1,79 @@
+package mapreduce
+
+import (
+	"iter"
+	"slices"
+	"strings"
+
+	"mapreduce/jobs"
+)
+
+const (
+	mostBytes   = 65536
+	mostReduces = 16
+)
+
+// findJob makes the job that is asked for, if all that it is given may be.
+func findJob(job int, arg, input string, reduces int) (jobs.Job, error) {
+	if reduces < 1 || reduces > mostReduces || len(arg) > mostBytes || len(input) > mostBytes {
+		return jobs.Job{}, ErrArg
+	}
+	maker, ok := jobs.All().Find(job)
+	if !ok {
+		return jobs.Job{}, ErrArg
+	}
+	return maker(arg), nil
+}
+
+// mapLines tells what lines emit, by parts, each sorted by keys, alike ones as emitted.
+func mapLines(job jobs.Job, lines []string, reduces int) ([][]Pair, error) {
+	parts := make([][]Pair, reduces)
+	emit := func(key, value string) {
+		p := Part(key, reduces)
+		parts[p] = append(parts[p], Pair{Key: key, Value: value})
+	}
+	for number, line := range lines {
+		if !job.Map(number, line, emit) {
+			return nil, &Fault{At: number, Err: ErrInput}
+		}
+	}
+	for _, part := range parts {
+		slices.SortStableFunc(part, func(a, b Pair) int { return strings.Compare(a.Key, b.Key) })
+	}
+	return parts, nil
+}
+
+func keyLess(a, b Pair) bool { return a.Key < b.Key }
+
+// groups tells each key with its values, of pairs in which alike keys stand together. The values are only lent: the next key's take their place.
+func groups(pairs iter.Seq[Pair]) iter.Seq2[string, []string] {
+	return func(yield func(string, []string) bool) {
+		key := ""
+		var values []string
+		for p := range pairs {
+			if len(values) > 0 && p.Key != key {
+				if !yield(key, values) {
+					return
+				}
+				values = values[:0]
+			}
+			key = p.Key
+			values = append(values, p.Value)
+		}
+		if len(values) > 0 {
+			yield(key, values)
+		}
+	}
+}
+
+// reduceRuns tells a part's lines, of its runs, each sorted by keys.
+func reduceRuns(job jobs.Job, runs ...[]Pair) string {
+	var out strings.Builder
+	for key, values := range groups(Merge(keyLess, runs...)) {
+		out.WriteString(key)
+		out.WriteByte('\t')
+		out.WriteString(job.Reduce(values))
+		out.WriteByte('\n')
+	}
+	return out.String()
+}
