@@ -15,7 +15,7 @@ const (
 
 // findJob makes the job that is asked for, if all that it is given may be.
 func findJob(job int, arg, input string, reduces int) (jobs.Job, error) {
-	if reduces < 1 || reduces > mostReduces || len(arg) > mostBytes || len(input) > mostBytes {
+	if !within(reduces, 1, mostReduces) || len(arg) > mostBytes || len(input) > mostBytes {
 		return jobs.Job{}, ErrArg
 	}
 	maker, ok := jobs.All().Find(job)

@@ -4,6 +4,7 @@ package mapreduce
 import (
 	"errors"
 	"strconv"
+	"sync"
 
 	"mapreduce/jobs"
 )
@@ -147,31 +148,67 @@ func Local(job int, arg, input string, reduces int) (string, error) {
 }
 
 // Table tells who works at what (P7 to P10).
-type Table struct{}
+type Table struct {
+	lock sync.Mutex
+	book book
+}
 
 // NewTable makes the table of a job (P7).
-func NewTable(c Config) (*Table, error) { return nil, nil }
+func NewTable(c Config) (*Table, error) {
+	if !mayBe(c) {
+		return nil, ErrArg
+	}
+	return &Table{book: newBook(c)}, nil
+}
 
 // Request asks for something to do (P8).
-func (t *Table) Request() (Grant, error) { return Grant{}, nil }
+func (t *Table) Request() (Grant, error) {
+	t.lock.Lock()
+	defer t.lock.Unlock()
+	return t.book.request()
+}
 
 // Heartbeat tells that an attempt goes on (P9).
-func (t *Table) Heartbeat(id, far int) error { return nil }
+func (t *Table) Heartbeat(id, far int) error {
+	t.lock.Lock()
+	defer t.lock.Unlock()
+	return t.book.heartbeat(id, far)
+}
 
 // Commit tells that an attempt is done (P9).
-func (t *Table) Commit(id int) error { return nil }
+func (t *Table) Commit(id int) error {
+	t.lock.Lock()
+	defer t.lock.Unlock()
+	return t.book.commit(id)
+}
 
 // Fail tells that an attempt has failed (P9).
-func (t *Table) Fail(id int) error { return nil }
+func (t *Table) Fail(id int) error {
+	t.lock.Lock()
+	defer t.lock.Unlock()
+	return t.book.fail(id)
+}
 
 // Tick lets the time go on (P9).
-func (t *Table) Tick() {}
+func (t *Table) Tick() {
+	t.lock.Lock()
+	defer t.lock.Unlock()
+	t.book.tick()
+}
 
 // Live tells the attempts that count (P10).
-func (t *Table) Live() []int { return nil }
+func (t *Table) Live() []int {
+	t.lock.Lock()
+	defer t.lock.Unlock()
+	return t.book.liveIDs()
+}
 
 // Status tells how it stands (P10).
-func (t *Table) Status() Status { return Status{} }
+func (t *Table) Status() Status {
+	t.lock.Lock()
+	defer t.lock.Unlock()
+	return t.book.status()
+}
 
 // Store keeps what attempts have staged and what is published (P11).
 type Store struct{}
