@@ -211,28 +211,57 @@ func (t *Table) Status() Status {
 }
 
 // Store keeps what attempts have staged and what is published (P11).
-type Store struct{}
+type Store struct {
+	lock  sync.Mutex
+	shelf shelf
+}
 
 // NewStore makes an empty one (P11).
-func NewStore(room int) *Store { return nil }
+func NewStore(room int) *Store {
+	return &Store{shelf: newShelf(room)}
+}
 
 // Stage lays something down for an attempt (P11).
-func (s *Store) Stage(id int, name, data string) error { return nil }
+func (s *Store) Stage(id int, name, data string) error {
+	s.lock.Lock()
+	defer s.lock.Unlock()
+	return s.shelf.stage(id, name, data)
+}
 
 // Publish makes all that an attempt has staged seen (P11).
-func (s *Store) Publish(id int) error { return nil }
+func (s *Store) Publish(id int) error {
+	s.lock.Lock()
+	defer s.lock.Unlock()
+	return s.shelf.publish(id)
+}
 
 // Discard takes away what an attempt has staged (P11).
-func (s *Store) Discard(id int) {}
+func (s *Store) Discard(id int) {
+	s.lock.Lock()
+	defer s.lock.Unlock()
+	s.shelf.discard(id)
+}
 
 // Keep takes away what other attempts have staged (P11).
-func (s *Store) Keep(live []int) {}
+func (s *Store) Keep(live []int) {
+	s.lock.Lock()
+	defer s.lock.Unlock()
+	s.shelf.keep(live)
+}
 
 // Get tells what is published under a name (P11).
-func (s *Store) Get(name string) (string, error) { return "", nil }
+func (s *Store) Get(name string) (string, error) {
+	s.lock.Lock()
+	defer s.lock.Unlock()
+	return s.shelf.get(name)
+}
 
 // Used tells how many bytes are there, and the most there ever were (P11).
-func (s *Store) Used() (int, int) { return 0, 0 }
+func (s *Store) Used() (int, int) {
+	s.lock.Lock()
+	defer s.lock.Unlock()
+	return s.shelf.used, s.shelf.most
+}
 
 // Run does a job by events (P12).
 func Run(job int, arg, input string, c Config, next func() (Event, bool)) (Report, error) {

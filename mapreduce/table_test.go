@@ -17,9 +17,8 @@ func small() m.Config {
 
 // bench is a table, and what was asked of it so far.
 type bench struct {
-	*testing.T
+	asker
 	table *m.Table
-	asked []string
 }
 
 func newBench(t *testing.T, c m.Config) *bench {
@@ -28,15 +27,7 @@ func newBench(t *testing.T, c m.Config) *bench {
 	if table == nil || err != nil {
 		t.Fatalf("P7: NewTable(%+v) = %v, %s", c, table, why(err))
 	}
-	return &bench{T: t, table: table}
-}
-
-func (b *bench) expect(asked string, got, want any) {
-	b.Helper()
-	if fmt.Sprint(got) != fmt.Sprint(want) {
-		b.Errorf("%s, behind %v: got %v, want %v", asked, b.asked, got, want)
-	}
-	b.asked = append(b.asked, asked)
+	return &bench{asker: asker{T: t}, table: table}
 }
 
 func (b *bench) grants(id, task, phase int, backup bool) {

@@ -34,6 +34,20 @@ func why(err error) string {
 
 func whyAt(reason error, at int) string { return fmt.Sprint(reason, " at ", at) }
 
+// asker is a test, and what was asked in it so far.
+type asker struct {
+	*testing.T
+	asked []string
+}
+
+func (a *asker) expect(asked string, got, want any) {
+	a.Helper()
+	if fmt.Sprint(got) != fmt.Sprint(want) {
+		a.Errorf("%s, behind %q: got %v, want %v", asked, a.asked, got, want)
+	}
+	a.asked = append(a.asked, asked)
+}
+
 // foreign is an error that no text can be asked of.
 type foreign struct{ list []int }
 
