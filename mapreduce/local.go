@@ -25,22 +25,42 @@ func findJob(job int, arg, input string, reduces int) (jobs.Job, error) {
 	return maker(arg), nil
 }
 
-// mapLines tells what lines emit, by parts, each sorted by keys, alike ones as emitted.
-func mapLines(job jobs.Job, lines []string, reduces int) ([][]Pair, error) {
-	parts := make([][]Pair, reduces)
-	emit := func(key, value string) {
-		p := Part(key, reduces)
-		parts[p] = append(parts[p], Pair{Key: key, Value: value})
+// plan is a job with its input, all of whose lines it can take.
+type plan struct {
+	job     jobs.Job
+	lines   []string
+	reduces int
+}
+
+func newPlan(job int, arg, input string, reduces int) (plan, error) {
+	found, err := findJob(job, arg, input, reduces)
+	if err != nil {
+		return plan{}, err
 	}
+	lines := jobs.Lines(input)
+	nowhere := func(key, value string) {}
 	for number, line := range lines {
-		if !job.Map(number, line, emit) {
-			return nil, &Fault{At: number, Err: ErrInput}
+		if !found.Map(number, line, nowhere) {
+			return plan{}, &Fault{At: number, Err: ErrInput}
 		}
+	}
+	return plan{job: found, lines: lines, reduces: reduces}, nil
+}
+
+// mapLines tells what the lines from one number on up to another emit, by parts, each sorted by keys, alike ones as emitted.
+func (p plan) mapLines(from, to int) [][]Pair {
+	parts := make([][]Pair, p.reduces)
+	emit := func(key, value string) {
+		n := Part(key, p.reduces)
+		parts[n] = append(parts[n], Pair{Key: key, Value: value})
+	}
+	for number := from; number < to; number++ {
+		p.job.Map(number, p.lines[number], emit)
 	}
 	for _, part := range parts {
 		slices.SortStableFunc(part, func(a, b Pair) int { return strings.Compare(a.Key, b.Key) })
 	}
-	return parts, nil
+	return parts
 }
 
 func keyLess(a, b Pair) bool { return a.Key < b.Key }
@@ -67,12 +87,12 @@ func groups(pairs iter.Seq[Pair]) iter.Seq2[string, []string] {
 }
 
 // reduceRuns tells a part's lines, of its runs, each sorted by keys.
-func reduceRuns(job jobs.Job, runs ...[]Pair) string {
+func (p plan) reduceRuns(runs ...[]Pair) string {
 	var out strings.Builder
 	for key, values := range groups(Merge(keyLess, runs...)) {
 		out.WriteString(key)
 		out.WriteByte('\t')
-		out.WriteString(job.Reduce(values))
+		out.WriteString(p.job.Reduce(values))
 		out.WriteByte('\n')
 	}
 	return out.String()

@@ -158,17 +158,27 @@ func expectValue(job int, values []string) string {
 	return ""
 }
 
-// expectLocal is P6 by other means: a map of all values, and a filter for each part.
-func expectLocal(job int, arg, input string, reduces int) (string, string) {
+func expectLines(input string) []string {
 	lines := strings.Split(input, "\n")
 	if lines[len(lines)-1] == "" {
 		lines = lines[:len(lines)-1]
 	}
+	return lines
+}
+
+func expectPart(key string, reduces int) int {
+	h := fnv.New32a()
+	h.Write([]byte(key))
+	return int(h.Sum32() % uint32(reduces))
+}
+
+// expectParts is P6 by other means: a map of all values, and a text for each part.
+func expectParts(job int, arg, input string, reduces int) ([]string, string) {
 	values := map[string][]string{}
-	for i, line := range lines {
+	for i, line := range expectLines(input) {
 		emitted, ok := expectEmitted(job, arg, i, line)
 		if !ok {
-			return "", whyAt(m.ErrInput, i)
+			return nil, whyAt(m.ErrInput, i)
 		}
 		for _, p := range emitted {
 			values[p.Key] = append(values[p.Key], p.Value)
@@ -176,11 +186,14 @@ func expectLocal(job int, arg, input string, reduces int) (string, string) {
 	}
 	parts := make([]string, reduces)
 	for _, key := range slices.Sorted(maps.Keys(values)) {
-		h := fnv.New32a()
-		h.Write([]byte(key))
-		parts[h.Sum32()%uint32(reduces)] += key + "\t" + expectValue(job, values[key]) + "\n"
+		parts[expectPart(key, reduces)] += key + "\t" + expectValue(job, values[key]) + "\n"
 	}
-	return strings.Join(parts, ""), "ok"
+	return parts, "ok"
+}
+
+func expectLocal(job int, arg, input string, reduces int) (string, string) {
+	parts, reason := expectParts(job, arg, input, reduces)
+	return strings.Join(parts, ""), reason
 }
 
 // everyText calls do with each text of at most n pieces.

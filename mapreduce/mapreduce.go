@@ -5,8 +5,6 @@ import (
 	"errors"
 	"strconv"
 	"sync"
-
-	"mapreduce/jobs"
 )
 
 // Why something is refused: asked with errors.Is.
@@ -132,17 +130,13 @@ func Merge[T any](less func(a, b T) bool, runs ...[]T) func(yield func(T) bool) 
 
 // Local does a job without tasks (P6).
 func Local(job int, arg, input string, reduces int) (string, error) {
-	found, err := findJob(job, arg, input, reduces)
-	if err != nil {
-		return "", err
-	}
-	parts, err := mapLines(found, jobs.Lines(input), reduces)
+	p, err := newPlan(job, arg, input, reduces)
 	if err != nil {
 		return "", err
 	}
 	out := ""
-	for _, part := range parts {
-		out += reduceRuns(found, part)
+	for _, part := range p.mapLines(0, len(p.lines)) {
+		out += p.reduceRuns(part)
 	}
 	return out, nil
 }
@@ -265,5 +259,16 @@ func (s *Store) Used() (int, int) {
 
 // Run does a job by events (P12).
 func Run(job int, arg, input string, c Config, next func() (Event, bool)) (Report, error) {
-	return Report{}, nil
+	table, err := NewTable(c)
+	if err != nil {
+		return Report{}, err
+	}
+	p, err := newPlan(job, arg, input, c.Reduces)
+	if err != nil {
+		return Report{}, err
+	}
+	shop := &workshop{plan: p, maps: c.Maps, table: table, store: NewStore(c.Capacity)}
+	r := &run{shop: shop, workers: hire(c.Workers, shop)}
+	defer r.workers.dismiss()
+	return r.tell(r.goThrough(next))
 }

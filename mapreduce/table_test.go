@@ -119,15 +119,15 @@ func TestExamples8And9InPlainData(t *testing.T) {
 	}
 }
 
-func TestWhatAConfigMayBe(t *testing.T) {
-	edges := func(least, most int) ([]int, []int) {
-		return []int{least, most}, []int{math.MinInt, least - 1, most + 1, math.MaxInt}
-	}
-	for _, f := range []struct {
-		name        string
-		set         func(*m.Config, int)
-		least, most int
-	}{
+// configField is one of a config's numbers, and what it may be.
+type configField struct {
+	name        string
+	set         func(*m.Config, int)
+	least, most int
+}
+
+func configFields() []configField {
+	return []configField{
 		{"Maps", func(c *m.Config, n int) { c.Maps = n }, 1, 16},
 		{"Reduces", func(c *m.Config, n int) { c.Reduces = n }, 1, 16},
 		{"Workers", func(c *m.Config, n int) { c.Workers = n }, 1, 8},
@@ -136,19 +136,29 @@ func TestWhatAConfigMayBe(t *testing.T) {
 		{"Lease", func(c *m.Config, n int) { c.Lease = n }, 1, 100},
 		{"Late", func(c *m.Config, n int) { c.Late = n }, 0, 1_000_000},
 		{"Capacity", func(c *m.Config, n int) { c.Capacity = n }, 0, 1 << 20},
-	} {
-		taken, refused := edges(f.least, f.most)
-		for _, n := range taken {
-			c := small()
-			f.set(&c, n)
-			if table, err := m.NewTable(c); table == nil || err != nil {
+	}
+}
+
+func (f configField) taken() []int { return []int{f.least, f.most} }
+
+func (f configField) refused() []int { return []int{math.MinInt, f.least - 1, f.most + 1, math.MaxInt} }
+
+// in is a small config, with this number in it.
+func (f configField) in(n int) m.Config {
+	c := small()
+	f.set(&c, n)
+	return c
+}
+
+func TestWhatAConfigMayBe(t *testing.T) {
+	for _, f := range configFields() {
+		for _, n := range f.taken() {
+			if table, err := m.NewTable(f.in(n)); table == nil || err != nil {
 				t.Errorf("P7: %s %d: %s", f.name, n, why(err))
 			}
 		}
-		for _, n := range refused {
-			c := small()
-			f.set(&c, n)
-			if table, err := m.NewTable(c); table != nil || why(err) != why(m.ErrArg) {
+		for _, n := range f.refused() {
+			if table, err := m.NewTable(f.in(n)); table != nil || why(err) != why(m.ErrArg) {
 				t.Errorf("P7: %s %d: %v, %s", f.name, n, table, why(err))
 			}
 		}
